@@ -657,7 +657,7 @@ func FuzzCut(f *testing.F) {
 			cut{s, nil, 0, api.ErrSize}.try(t)
 			return
 		}
-		if want := slowCut(s); len(want.want) <= api.MaxTokens && want.place <= api.MaxTokens {
+		if want := slowCut(s); len(want.want) <= api.MaxTokens && want.place < api.MaxTokens {
 			want.try(t)
 		}
 	})
