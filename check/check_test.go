@@ -392,25 +392,25 @@ func TestCounts(t *testing.T) {
 	spoilt(t, "a Field goes ahead of the links", api.ErrType, func(b *api.Book) { b.Rules[2].Manies[1].Field, b.Rules[2].Links[0].Left = "t", "zz" })
 }
 
-// TestEmptyConditions: P7.3: a condition that is all empty, as the pattern's own and within another one, however deep; one that is not all empty is of no Kind.
+// TestEmptyConditions: P7.3: a condition that is all empty may be a pattern's own, and stands nowhere within another one, however deep; one that is not all empty is of no Kind.
 func TestEmptyConditions(t *testing.T) {
 	var empty api.Condition
-	deep := empty
-	for range api.MaxDepth {
-		deep = group(api.Not, deep)
-	}
 	for i, c := range []api.Condition{
 		empty,
 		{Subs: []api.Condition{}},
-		group(api.Not, empty),
-		group(api.And, empty, empty),
-		group(api.Or, good(1), empty),
-		group(api.Or, empty, good(1), group(api.And, good(2), empty)),
-		deep,
 	} {
 		atPatterns(t, fmt.Sprint("empty ", i), api.OK, func(p place, b *api.Book) { p.in(b).Where = c })
+		for k, d := range around(c)[1:] {
+			atPatterns(t, fmt.Sprint("empty ", i, " within ", k+1), api.ErrKind, func(p place, b *api.Book) { p.in(b).Where = d })
+		}
 	}
 	for i, c := range []api.Condition{
+		group(api.And, empty, empty),
+		group(api.Or, empty, good(1)),
+		group(api.Or, empty, test(api.Equal, number(1), text("1"))),
+		group(api.Not, group(api.Not, empty)),
+		group(api.Or, good(1), group(api.And, good(2), empty)),
+		group(api.And, make([]api.Condition, 100)...),
 		{Subs: []api.Condition{empty}},
 		{Left: number(1)},
 		{Right: number(1)},
@@ -420,18 +420,22 @@ func TestEmptyConditions(t *testing.T) {
 	} {
 		wrongCondition(t, fmt.Sprint("not all empty ", i), c, api.ErrKind)
 	}
-	wrongCondition(t, "one that is not empty, too deep", group(api.Not, deep), api.ErrDeep)
-	none := api.Condition{Kind: 9}
-	for range api.MaxDepth {
-		none = group(api.Not, none)
+	wrongCondition(t, "a Sub goes ahead of an empty one behind it", group(api.And, test(api.Equal, number(1), text("1")), empty), api.ErrType)
+	for kind, c := range map[string]api.Condition{"no such Kind": {Kind: 9}, "an empty one": empty} {
+		for range api.MaxDepth - 1 {
+			c = group(api.Not, c)
+		}
+		for range 2 {
+			atPatterns(t, kind+" goes ahead of too deep", api.ErrKind, func(p place, b *api.Book) { p.in(b).Where = c })
+			c = group(api.Not, c)
+		}
+		atPatterns(t, kind+" two deeper: what is around it is too deep", api.ErrDeep, func(p place, b *api.Book) { p.in(b).Where = c })
 	}
-	atPatterns(t, "no such Kind goes ahead of too deep", api.ErrKind, func(p place, b *api.Book) { p.in(b).Where = none })
 }
 
-// wrongCondition: as each pattern's own, and within others, at the first, at a middle and at the last place.
-func wrongCondition(t *testing.T, what string, c api.Condition, e api.Errno) {
-	t.Helper()
-	around := []api.Condition{
+// around: a condition as it is, and within others, at the first, at a middle and at the last place.
+func around(c api.Condition) []api.Condition {
+	return []api.Condition{
 		c,
 		group(api.Not, c),
 		group(api.And, c, good(1), good(2)),
@@ -439,11 +443,16 @@ func wrongCondition(t *testing.T, what string, c api.Condition, e api.Errno) {
 		group(api.And, good(1), good(2), c),
 		group(api.Or, good(1), group(api.Not, group(api.And, good(2), c)), test(api.Equal, number(1), text("1"))),
 	}
+}
+
+// wrongCondition: as each pattern's own, and within others.
+func wrongCondition(t *testing.T, what string, c api.Condition, e api.Errno) {
+	t.Helper()
 	b := read(t, wholeBook)
 	for _, p := range places(b) {
 		at := &p.in(&b).Where
 		was := *at
-		for i, d := range around {
+		for i, d := range around(c) {
 			*at = d
 			want(t, fmt.Sprintf("%v: %s, within %d", p, what, i), b, e)
 		}
@@ -491,8 +500,8 @@ func TestKindsOfConditions(t *testing.T) {
 func TestDeep(t *testing.T) {
 	wraps := []func(c api.Condition) api.Condition{
 		func(c api.Condition) api.Condition { return group(api.Not, c) },
-		func(c api.Condition) api.Condition { return group(api.And, c, api.Condition{}) },
-		func(c api.Condition) api.Condition { return group(api.Or, api.Condition{}, good(1), c) },
+		func(c api.Condition) api.Condition { return group(api.And, c, good(1)) },
+		func(c api.Condition) api.Condition { return group(api.Or, good(1), c) },
 	}
 	for mask := range 3 * 3 * 3 {
 		c := good(2)
@@ -516,9 +525,9 @@ func TestDeep(t *testing.T) {
 		c = group(api.Not, c)
 	}
 	spoilt(t, "very deep", api.ErrDeep, func(b *api.Book) { b.Rules[0].Whens[0].Where = c })
-	around := group(api.And, good(1), good(1))
-	around.Subs[0].Kind, around.Subs[0].Left, around.Subs[0].Right, around.Subs[0].Subs = api.And, api.Operand{}, api.Operand{}, around.Subs
-	spoilt(t, "within itself", api.ErrDeep, func(b *api.Book) { b.Rules[0].Whens[0].Where = around })
+	endless := group(api.And, good(1), good(1))
+	endless.Subs[0].Kind, endless.Subs[0].Left, endless.Subs[0].Right, endless.Subs[0].Subs = api.And, api.Operand{}, api.Operand{}, endless.Subs
+	spoilt(t, "within itself", api.ErrDeep, func(b *api.Book) { b.Rules[0].Whens[0].Where = endless })
 	bad := test(api.Equal, number(1), text("1"))
 	for range api.MaxDepth {
 		bad = group(api.Not, bad)
@@ -546,7 +555,8 @@ func TestTests(t *testing.T) {
 	}{
 		{some(api.And, api.MaxTests), api.OK},
 		{some(api.Or, api.MaxTests), api.OK},
-		{with(some(api.Or, api.MaxTests), api.Condition{}, api.Condition{}), api.OK},
+		{with(some(api.Or, api.MaxTests), api.Condition{}), api.ErrKind},
+		{with(some(api.Or, api.MaxTests+1), api.Condition{}), api.ErrSize},
 		{some(api.And, api.MaxTests+1), api.ErrSize},
 		{some(api.Or, api.MaxTests+1), api.ErrSize},
 		{some(api.Or, 1000), api.ErrSize},
@@ -957,6 +967,7 @@ func TestLadder(t *testing.T) {
 	step(api.ErrForm, func() { p.Where.Subs = make([]api.Condition, 2) })
 	p.Where.Subs[1] = api.Condition{Kind: api.Less, Subs: make([]api.Condition, 1), Left: wrong, Right: wrong}
 	c := &p.Where.Subs[1]
+	step(api.ErrKind, func() { p.Where.Subs[0] = good(1) })
 	step(api.ErrForm, func() { c.Subs = nil })
 	for _, o := range []*api.Operand{&c.Left, &c.Right} {
 		step(api.ErrKind, func() { o.Kind = api.Other })

@@ -157,7 +157,8 @@ func testsOf(l ...api.Condition) int {
 }
 
 func (j *judge) condition(c api.Condition, kind string, ahead []api.Pattern, depth int) {
-	if reflect.DeepEqual(c, api.Condition{}) || c.Subs != nil && len(c.Subs) == 0 && reflect.DeepEqual(c, api.Condition{Subs: c.Subs}) {
+	empty := reflect.DeepEqual(c, api.Condition{}) || c.Subs != nil && len(c.Subs) == 0 && reflect.DeepEqual(c, api.Condition{Subs: c.Subs})
+	if empty && depth == 1 {
 		return
 	}
 	j.ask(c.Kind < 1 || c.Kind > 7, api.ErrKind)

@@ -205,8 +205,6 @@ func hasBrackets(kind, around int) bool {
 // bare condition, without brackets of its own.
 func (w *writer) bare(c api.Condition) {
 	switch c.Kind {
-	case api.Always:
-		// It may stand within another one, but the grammar has no word for it there.
 	case api.And:
 		w.subs(c, "and")
 	case api.Or:

@@ -189,16 +189,15 @@ func TestShowOptions(t *testing.T) {
 	}
 }
 
-// TestEmptyWithin: P7.5: a condition that is all empty has no brackets of a pattern; where it stands within another one, nothing is refused, and nothing stands for it.
+// TestEmptyWithin: P7.5: a condition that is all empty has no brackets of a pattern; the grammar has no form for it within another one, so it is refused there.
 func TestEmptyWithin(t *testing.T) {
 	b := ofCondition(api.Condition{})
 	wantText(t, b, tight("type a { n : int , s : text } rule r { when x : a ; when y : a ; }"))
-	wantCondition(t, group(api.And, api.Condition{}, good(1)), "and 1 = 1")
-	wantCondition(t, group(api.Or, good(1), api.Condition{}, good(2)), "1 = 1 or or 2 = 2")
-	wantCondition(t, group(api.Not, api.Condition{}), "not")
-	l, e := Show(ofCondition(group(api.And, make([]api.Condition, 100000)...)))
-	if len(l) > 0 || e != api.ErrFull {
-		t.Errorf("very many empty ones: %d tokens, %v", len(l), e)
+	roundTrip(t, b)
+	for i, c := range around(api.Condition{})[1:] {
+		if l, e := Show(ofCondition(c)); len(l) > 0 || e != api.ErrKind {
+			t.Errorf("within %d: %v, %v", i+1, l, e)
+		}
 	}
 }
 
