@@ -511,6 +511,10 @@ func TestRefused(t *testing.T) {
 			t.Errorf("%s: not refused", what)
 		}
 	}
+	open := one(t, "when x : a ; many 2 p : b within 0 ;")
+	open.Rules[0].Manies[0].Pattern.Window = api.Open
+	wantPlan(t, "a many without a window", open, 0, api.Plan{}, api.ErrForm)
+	wantOffsets(t, "a many without a window", open, nil, api.ErrForm)
 	// Offsets of a book beyond its limits is refused so, not by what its rules are.
 	b := read(t, types+"rule r"+never)
 	b.Rules = slices.Repeat(b.Rules, api.MaxRules+1)
