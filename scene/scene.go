@@ -1,0 +1,78 @@
+// Package scene: what a pattern looks at. It asks nothing of whether books and events may be: layers that ask much of one
+// book check it once themselves, and share this.
+package scene
+
+import (
+	"slices"
+
+	"dotterel/api"
+	"dotterel/value"
+)
+
+// Scene that a pattern looks at: the event that is its own, and those that are known, one for each of these whens and of
+// its type. Types, events and patterns are of a book that may be.
+type Scene struct {
+	Types []api.Type
+	Own   api.Event
+	Whens []api.Pattern
+	Known []api.Event
+}
+
+// IsOf: is an event of a pattern's type?
+func IsOf(types []api.Type, x api.Event, p api.Pattern) bool { return types[x.Type].Name == p.Type }
+
+// Suits: does a pattern take the event that is its own?
+func (s Scene) Suits(p api.Pattern) bool {
+	// The type goes first: an event of another one may not have the fields that the condition names.
+	return IsOf(s.Types, s.Own, p) && s.holds(p.Where)
+}
+
+// holds: does a condition?
+func (s Scene) holds(c api.Condition) bool {
+	switch c.Kind {
+	case api.Always:
+		return true
+	case api.And:
+		return !slices.ContainsFunc(c.Subs, s.fails)
+	case api.Or:
+		return slices.ContainsFunc(c.Subs, s.holds)
+	case api.Not:
+		return s.fails(c.Subs[0])
+	}
+	return s.compares(c)
+}
+
+func (s Scene) fails(c api.Condition) bool { return !s.holds(c) }
+
+// compares: does a comparison hold?
+func (s Scene) compares(c api.Condition) bool {
+	// Both sides are of one kind, and may be.
+	n, _ := value.Compare(s.side(c.Left), s.side(c.Right))
+	switch c.Kind {
+	case api.Equal:
+		return n == 0
+	case api.Differ:
+		return n != 0
+	case api.Less:
+		return n < 0
+	}
+	return n <= 0
+}
+
+// side of a comparison: the value that it stands for.
+func (s Scene) side(o api.Operand) api.Value {
+	switch o.Kind {
+	case api.Own:
+		return s.field(s.Own, o.Field)
+	case api.Other:
+		at := slices.IndexFunc(s.Whens, func(p api.Pattern) bool { return p.Var == o.Var })
+		return s.field(s.Known[at], o.Field)
+	}
+	return o.Value
+}
+
+// field of an event: its value.
+func (s Scene) field(x api.Event, name string) api.Value {
+	at := slices.IndexFunc(s.Types[x.Type].Fields, func(f api.Field) bool { return f.Name == name })
+	return x.Values[at]
+}
