@@ -1,11 +1,12 @@
-// Package scene: what a pattern looks at. It asks nothing of whether books and events may be: layers that ask much of one
-// book check it once themselves, and share this.
+// Package scene: what a pattern looks at. It asks nothing of whether a book may be: layers that ask much of one book check
+// it once themselves, and share this.
 package scene
 
 import (
 	"slices"
 
 	"dotterel/api"
+	"dotterel/tick"
 	"dotterel/value"
 )
 
@@ -20,6 +21,38 @@ type Scene struct {
 
 // IsOf: is an event of a pattern's type?
 func IsOf(types []api.Type, x api.Event, p api.Pattern) bool { return types[x.Type].Name == p.Type }
+
+// WhenAt: the place of the when with a name; -1: it is none of a when.
+func WhenAt(whens []api.Pattern, name string) int {
+	return slices.IndexFunc(whens, func(p api.Pattern) bool { return p.Var == name })
+}
+
+// CheckKnown: may these be the events of these whens? All of them are checked ahead of how many there are, so that what is
+// wrong of one too many is told, too.
+func CheckKnown(types []api.Type, whens []api.Pattern, known []api.Event) api.Errno {
+	for _, x := range known {
+		if e := value.CheckEvent(types, x); e != api.OK {
+			return e
+		}
+	}
+	if len(known) != len(whens) {
+		return api.ErrForm
+	}
+	for i, x := range known {
+		if !IsOf(types, x, whens[i]) {
+			return api.ErrType
+		}
+	}
+	return api.OK
+}
+
+// Linked: does one of these options hold of a link's left span to its right one? Both spans and options may be.
+func Linked(options []api.Option, left, right api.Span) bool {
+	return slices.ContainsFunc(options, func(o api.Option) bool {
+		fits, _ := tick.Fits(o, left, right)
+		return fits
+	})
+}
 
 // Suits: does a pattern take the event that is its own?
 func (s Scene) Suits(p api.Pattern) bool {
@@ -65,8 +98,7 @@ func (s Scene) side(o api.Operand) api.Value {
 	case api.Own:
 		return s.field(s.Own, o.Field)
 	case api.Other:
-		at := slices.IndexFunc(s.Whens, func(p api.Pattern) bool { return p.Var == o.Var })
-		return s.field(s.Known[at], o.Field)
+		return s.field(s.Known[WhenAt(s.Whens, o.Var)], o.Field)
 	}
 	return o.Value
 }

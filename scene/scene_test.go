@@ -69,3 +69,73 @@ func TestSuits(t *testing.T) {
 		}
 	}
 }
+
+// TestWhenAt: the place of each when, by its name; -1 for any other one.
+func TestWhenAt(t *testing.T) {
+	r := read(t, "type a { } rule r { when x : a ; when y : a ; when z : a ; not u : a ; many 1 p : a within 3 ; }").Rules[0]
+	for name, want := range map[string]int{"x": 0, "y": 1, "z": 2, "u": -1, "p": -1, "a": -1, "": -1} {
+		if got := WhenAt(r.Whens, name); got != want {
+			t.Errorf("%s: %d, want %d", name, got, want)
+		}
+	}
+	if got := WhenAt(r.Whens[:1], "y"); got != -1 {
+		t.Errorf("one that is not among them: %d", got)
+	}
+}
+
+// TestCheckKnown: each event is asked whether it may be, ahead of how many there are; their types go last.
+func TestCheckKnown(t *testing.T) {
+	b := read(t, "type a { n : int } type b { n : int } rule r { when x : a ; when y : b ; }")
+	whens := b.Rules[0].Whens
+	x, y := event(0, 1), event(1, 2)
+	short, odd := event(0), event(2) // one without its value, and one of no type
+	for i, c := range []struct {
+		known []api.Event
+		want  api.Errno
+	}{
+		{[]api.Event{x, y}, api.OK},
+		{[]api.Event{y, x}, api.ErrType},
+		{[]api.Event{x, x}, api.ErrType},
+		{[]api.Event{y, y}, api.ErrType},
+		{nil, api.ErrForm},
+		{[]api.Event{x}, api.ErrForm},
+		{[]api.Event{y}, api.ErrForm},
+		{[]api.Event{x, y, x}, api.ErrForm},
+		{[]api.Event{short, odd}, api.ErrType},
+		{[]api.Event{odd, short}, api.ErrNone},
+		{[]api.Event{y, odd}, api.ErrNone},
+		{[]api.Event{x, y, odd}, api.ErrNone},
+		{[]api.Event{odd}, api.ErrNone},
+	} {
+		if got := CheckKnown(b.Types, whens, c.known); got != c.want {
+			t.Errorf("%d: %v: %v, want %v", i, c.known, got, c.want)
+		}
+	}
+	if e := CheckKnown(b.Types, nil, nil); e != api.OK {
+		t.Errorf("none of none: %v", e)
+	}
+}
+
+// TestLinked: one option is enough, of the left span to the right one.
+func TestLinked(t *testing.T) {
+	left, right := api.Span{Start: 0, End: 2}, api.Span{Start: 5, End: 9}
+	near, far := api.Option{Relation: api.Before, High: 2}, api.Option{Relation: api.Before, Low: 3, High: 3}
+	after := api.Option{Relation: api.After, High: -1}
+	for i, c := range []struct {
+		options []api.Option
+		to, fro bool
+	}{
+		{nil, false, false},
+		{[]api.Option{near}, false, false},
+		{[]api.Option{far}, true, false},
+		{[]api.Option{after}, false, true},
+		{[]api.Option{near, far}, true, false},
+		{[]api.Option{far, near}, true, false},
+		{[]api.Option{near, after}, false, true},
+		{[]api.Option{near, far, after}, true, true},
+	} {
+		if to, fro := Linked(c.options, left, right), Linked(c.options, right, left); to != c.to || fro != c.fro {
+			t.Errorf("%d: %v: %v, %v", i, c.options, to, fro)
+		}
+	}
+}
