@@ -54,6 +54,31 @@ func Linked(options []api.Option, left, right api.Span) bool {
 	})
 }
 
+// Link between two whens: does it hold in the beginning of a tuple, where the events of both are in it?
+type Link func(tuple []api.Event) bool
+
+// LinksOf a rule that are between two whens, by the place of the later one: there both are known.
+func LinksOf(r api.Rule) [][]Link {
+	out := make([][]Link, len(r.Whens))
+	for _, k := range r.Links {
+		left, right := WhenAt(r.Whens, k.Left), WhenAt(r.Whens, k.Right)
+		// A link of a not says what may not come, and nothing of the tuple.
+		if left < 0 || right < 0 {
+			continue
+		}
+		later := max(left, right)
+		out[later] = append(out[later], func(tuple []api.Event) bool {
+			return Linked(k.Options, tuple[left].Span, tuple[right].Span)
+		})
+	}
+	return out
+}
+
+// AllHold: do all of these links hold in the beginning of a tuple?
+func AllHold(links []Link, tuple []api.Event) bool {
+	return !slices.ContainsFunc(links, func(holds Link) bool { return !holds(tuple) })
+}
+
 // Suits: does a pattern take the event that is its own?
 func (s Scene) Suits(p api.Pattern) bool {
 	// The type goes first: an event of another one may not have the fields that the condition names.

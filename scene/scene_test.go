@@ -139,3 +139,40 @@ func TestLinked(t *testing.T) {
 		}
 	}
 }
+
+// TestLinksOf: the links between whens, each at the later one of both, and by the event of the when that it names; those of nots are left out.
+func TestLinksOf(t *testing.T) {
+	r := read(t, `type a { } rule r { when x : a ; when y : a ; when z : a ; not u : a ;
+		where x before y ; where z after x ; where u before x ; where y before ( 2 , any ) z ; where z during u ; }`).Rules[0]
+	links := LinksOf(r)
+	if len(links) != 3 || len(links[0]) != 0 || len(links[1]) != 1 || len(links[2]) != 2 {
+		t.Fatalf("%v", links)
+	}
+	at := func(times ...int) []api.Event {
+		var l []api.Event
+		for _, n := range times {
+			l = append(l, api.Event{Span: api.Span{Start: n, End: n}})
+		}
+		return l
+	}
+	for i, c := range []struct {
+		tuple []api.Event
+		holds bool
+	}{
+		{at(5), true},
+		{at(1, 2), true},
+		{at(2, 2), false},
+		{at(2, 1), false},
+		{at(1, 2, 4), true},
+		{at(1, 2, 3), false}, // y is not 2 before z
+		{at(5, 2, 4), false}, // z is not after x
+		{at(5, 2, 9), true},  // of x and y it is not asked here
+	} {
+		if got := AllHold(links[len(c.tuple)-1], c.tuple); got != c.holds {
+			t.Errorf("%d: %v: %v", i, c.tuple, got)
+		}
+	}
+	if !AllHold(nil, nil) {
+		t.Error("none do not hold")
+	}
+}
