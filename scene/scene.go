@@ -1,5 +1,5 @@
-// Package scene: what a pattern looks at. It asks nothing of whether a book may be: layers that ask much of one book check
-// it once themselves, and share this.
+// Package scene: what a pattern looks at, and a tuple of which it is asked whether it is fired. It asks nothing of whether
+// a book may be: layers that ask much of one book check it once themselves, and share this.
 package scene
 
 import (
@@ -105,7 +105,7 @@ func (s Scene) fails(c api.Condition) bool { return !s.holds(c) }
 // compares: does a comparison hold?
 func (s Scene) compares(c api.Condition) bool {
 	// Both sides are of one kind, and may be.
-	n, _ := value.Compare(s.side(c.Left), s.side(c.Right))
+	n, _ := value.Compare(s.Side(c.Left), s.Side(c.Right))
 	switch c.Kind {
 	case api.Equal:
 		return n == 0
@@ -117,8 +117,8 @@ func (s Scene) compares(c api.Condition) bool {
 	return n <= 0
 }
 
-// side of a comparison: the value that it stands for.
-func (s Scene) side(o api.Operand) api.Value {
+// Side of a comparison, or a value that is emitted: the value that it stands for.
+func (s Scene) Side(o api.Operand) api.Value {
 	switch o.Kind {
 	case api.Own:
 		return s.field(s.Own, o.Field)

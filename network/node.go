@@ -1,4 +1,4 @@
-package rete
+package network
 
 import (
 	"slices"
@@ -21,14 +21,14 @@ type node struct {
 	together api.Pattern // what it asks of it by those ahead
 	ties     []tie
 	links    []scene.Link
-	events   map[key][]int   // places of events that it may take
+	events   map[key][]*item // events that it may take
 	tokens   map[key][]token // of the events of the whens ahead
 }
 
 // newNode of the last one of these whens, with these links to those ahead.
 func newNode(types []api.Type, whens []api.Pattern, links []scene.Link) node {
 	last := len(whens) - 1
-	d := node{alone: whens[last], together: whens[last], links: links, events: map[key][]int{}, tokens: map[key][]token{}}
+	d := node{alone: whens[last], together: whens[last], links: links, events: map[key][]*item{}, tokens: map[key][]token{}}
 	var alone, together []api.Condition
 	for _, c := range parts(whens[last].Where) {
 		if namesOther(c) {
@@ -114,9 +114,9 @@ func (d *node) ofTuple(tuple []api.Event) key {
 	return k
 }
 
-func (d *node) keepEvent(x api.Event, at int) {
-	k := d.ofEvent(x)
-	d.events[k] = append(d.events[k], at)
+func (d *node) keepEvent(x *item) {
+	k := d.ofEvent(x.Event)
+	d.events[k] = append(d.events[k], x)
 }
 
 func (d *node) keepToken(t token, tuple []api.Event) {
@@ -125,7 +125,24 @@ func (d *node) keepToken(t token, tuple []api.Event) {
 }
 
 // eventsFor a token with these events: those that the when may take behind it.
-func (d *node) eventsFor(tuple []api.Event) []int { return d.events[d.ofTuple(tuple)] }
+func (d *node) eventsFor(tuple []api.Event) []*item { return d.events[d.ofTuple(tuple)] }
 
 // tokensFor an event: those behind which the when may take it.
 func (d *node) tokensFor(x api.Event) []token { return d.tokens[d.ofEvent(x)] }
+
+// drop the events that are over, and the tokens that have one of these.
+func (d *node) drop(isOver func(x *item) bool) {
+	prune(d.events, isOver)
+	prune(d.tokens, func(t token) bool { return slices.ContainsFunc(t, isOver) })
+}
+
+// prune lists of what is over, and of lists that nothing is left of.
+func prune[E any](lists map[key][]E, isOver func(x E) bool) {
+	for k, l := range lists {
+		if l = slices.DeleteFunc(l, isOver); len(l) > 0 {
+			lists[k] = l
+		} else {
+			delete(lists, k)
+		}
+	}
+}
